@@ -167,12 +167,11 @@ func expectedPlan(text string) (impl.Plan, bool) {
 }
 
 func TestPromise29TextFunctions(t *testing.T) {
-	c := networkCandidates()
+	c := routeCandidates()
 	for _, text := range brokenNetworkTexts() {
 		c.add(text)
 	}
 	c.add("a.0.b", "a.0.b.2.c", "0+1", "nodes a b\n", "nodes a b c d\nfiber a b 100\nlight 1 a.0.b 0+1\n", strings.Repeat("light ", 2000), strings.Repeat("a.0.", 3000))
-	c.add(impl.Route{}, route(0, 0), route(0, 0, 2), route(3, 13), route(minInt, maxInt), route(0, 0, 1, 2, 3, 4, 5, 6, 7, 8, 9))
 	for _, p := range append(samplePlans(), brokenPlans()...) {
 		c.add(p)
 	}

@@ -46,12 +46,13 @@ func trap() impl.Network {
 	return network("a b c d", [4]int{0, 1, 100}, [4]int{0, 2, 400}, [4]int{1, 2, 100}, [4]int{1, 3, 400}, [4]int{2, 3, 100})
 }
 
-// chain has ab * bc * cd routes from a to d, over parallel fibers.
-func chain(ab int, bc int, cd int) impl.Network {
-	n := network("a b c d")
-	for hop, count := range []int{ab, bc, cd} {
+// chain connects nodes in a row by parallel fibers, as many between each and the next as counts
+// tells.
+func chain(counts ...int) impl.Network {
+	n := network("a b c d e f g h")
+	for hop, count := range counts {
 		for k := range count {
-			n.Fibers = append(n.Fibers, impl.Fiber{A: hop, B: hop + 1, Length: 10 + k, Risk: k % 3})
+			n.Fibers = append(n.Fibers, impl.Fiber{A: hop, B: hop + 1, Length: 10 + k/2, Risk: k})
 		}
 	}
 	return n
