@@ -1,6 +1,8 @@
 package tests
 
 import (
+	"fmt"
+	"math/rand/v2"
 	"slices"
 	"strings"
 
@@ -70,39 +72,41 @@ func sampleNetworks() []impl.Network {
 		network("a b c d e", [4]int{0, 1, 4, 1}, [4]int{2, 3, 4, 1}, [4]int{2, 4, 4, 2}, [4]int{3, 4, 4, 2}),
 		square(), parallels(), largest(), trap(), chain(2, 3, 4),
 	}
-	return append(list, randomNetworks(40, 8)...)
+	return append(list, randomNetworks(24, 8)...)
 }
 
-// randomNetworks returns count valid networks with at most so many nodes. The numbers follow a
-// fixed sequence, so that all runs see the same networks.
+// randomNetworks returns count different valid networks with at most so many nodes. The numbers
+// follow a fixed sequence, so that all runs see the same networks.
 func randomNetworks(count int, nodes int) []impl.Network {
 	var list []impl.Network
+	seen := map[string]bool{}
 	next := numbers(uint64(nodes))
-	for range count {
-		n := network("a b")
-		for len(n.Nodes) < 2+next(nodes-1) && len(n.Nodes) < nodes {
-			n.Nodes = append(n.Nodes, "n"+string(rune('a'+len(n.Nodes))))
+	for len(list) < count {
+		var n impl.Network
+		for i := range 2 + next(nodes-1) {
+			n.Nodes = append(n.Nodes, "n"+string(rune('a'+i)))
 		}
-		lengths, risks := []int{2, 10, 5000}[next(3)], 1+next(4)
+		lengths, risks := []int{2, 10, impl.MaxLength}[next(3)], 1+next(4)
 		for range next(impl.MaxFibers + 1) {
-			a, b := next(len(n.Nodes)), next(len(n.Nodes))
-			if a < b {
-				n.Fibers = append(n.Fibers, impl.Fiber{A: a, B: b, Length: 1 + next(lengths), Risk: next(risks)})
+			a, b := next(len(n.Nodes)), next(len(n.Nodes)-1)
+			if b >= a {
+				b++
 			}
+			n.Fibers = append(n.Fibers, impl.Fiber{A: min(a, b), B: max(a, b), Length: 1 + next(lengths), Risk: next(risks)})
 		}
 		slices.SortFunc(n.Fibers, expectedOrder)
-		list = append(list, n)
+		if key := fmt.Sprint(n); !seen[key] {
+			seen[key] = true
+			list = append(list, n)
+		}
 	}
 	return list
 }
 
 // numbers returns a function whose calls give a fixed sequence of numbers in 0..limit-1.
 func numbers(seed uint64) func(limit int) int {
-	state := seed*2862933555777941757 + 3037000493
-	return func(limit int) int {
-		state = state*6364136223846793005 + 1442695040888963407
-		return int(state>>33) % limit
-	}
+	generator := rand.New(rand.NewPCG(seed, seed))
+	return generator.IntN
 }
 
 // expectedOrder compares fibers by a number with one digit of a large base for each of A, B,
