@@ -51,6 +51,12 @@ func TestPromise10UsableRoutesAscend(t *testing.T) {
 
 func demandCandidates() candidates {
 	c := routeCandidates()
+	addDemands(c)
+	return c
+}
+
+// addDemands adds lists of formats, demands, and numbers that matter for them.
+func addDemands(c candidates) {
 	for _, list := range append(sampleFormats(), badFormats()...) {
 		c.add(list)
 	}
@@ -60,7 +66,6 @@ func demandCandidates() candidates {
 	}
 	c.add([]impl.Demand(nil), make([]impl.Demand, 13), []impl.Demand{demand(1, 0, 2), demand(0, 1, 2)})
 	c.add(300, 301, 1000, 1001, 20000, 20001)
-	return c
 }
 
 func TestPromise29FormatFunctions(t *testing.T) {
