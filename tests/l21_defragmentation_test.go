@@ -66,6 +66,19 @@ func gapped() impl.Plan {
 	return plan(square(), light(2, route(0, 0), 0, 3), light(4, route(1, 0), 4, 3), light(6, route(0, 0, 2), 12, 4), light(8, route(1, 2), 2, 1), light(9, route(0, 1, 3), 5, 4))
 }
 
+// winding has lights that go below each other 68 times in hitless moves. The Ids are those of its
+// lights in order.
+func winding(ids ...int) impl.Plan {
+	p := plan(chain(2, 2, 2, 2, 2, 2, 2),
+		light(0, route(1, 2, 4), 8, 3), light(0, route(1, 2, 5, 7, 9, 11, 12), 12, 3), light(0, route(0, 1, 3, 4, 6, 8, 11, 12), 20, 1), light(0, route(1, 3, 4, 6, 9, 10, 12), 17, 1),
+		light(0, route(1, 2, 5, 6, 9, 10), 19, 1), light(0, route(0, 0, 2, 4, 6, 8, 10, 13), 22, 1), light(0, route(1, 3, 4, 7, 8), 18, 1), light(0, route(1, 2, 5, 7, 8), 16, 1),
+		light(0, route(0, 0, 3, 4, 6, 8), 13, 1), light(0, route(2, 4, 6, 8, 10, 13), 12, 1), light(0, route(3, 7, 8, 10), 6, 3), light(0, route(1, 3, 5, 6, 9), 3, 3))
+	for i, id := range ids {
+		p.Lights[i].Id = id
+	}
+	return p
+}
+
 func TestPlanHeight(t *testing.T) {
 	check(t, impl.PlanHeight, in(gapped()), out(16, true))
 	check(t, impl.PlanHeight, in(plan(square())), out(0, true))
@@ -151,6 +164,23 @@ func TestDefragment(t *testing.T) {
 		checkFails(t, impl.Defragment, p, true, limit)
 		checkFails(t, impl.Defragment, plan(square()), false, limit)
 	}
+}
+
+// TestDefragmentUpToTheLimit has more moves than the greatest limit.
+func TestDefragmentUpToTheLimit(t *testing.T) {
+	p := winding(101, 102, 103, 104, 105, 106, 107, 108, 109, 110, 111, 112)
+	end, all := expectedDefrag(p, true, 1000)
+	if len(all) != 68 {
+		t.Errorf("there are %d moves", len(all))
+	}
+	for _, limit := range []int{1, 30, 59, 60} {
+		part, ids := expectedDefrag(p, true, limit)
+		check(t, impl.Defragment, in(p, true, limit), out(part, ids, true))
+		check(t, impl.IsCompact, in(part, true), out(false, true))
+	}
+	part, _ := expectedDefrag(p, true, 60)
+	check(t, impl.Defragment, in(part, true, 60), out(end, all[60:], true))
+	check(t, impl.IsCompact, in(end, true), out(true, true))
 }
 
 // crowded returns plans whose lights have many slots free below them.
