@@ -231,6 +231,11 @@ func TestPromise29ResultsOfTwoCallsAreApart(t *testing.T) {
 // come with zero results.
 func TestPromise29AllFunctionsReturn(t *testing.T) {
 	texts := append(stringsOver("\x00-0#\xff", 3), strings.Repeat("#", impl.MaxString), strings.Repeat("9", 1000000))
+	for _, n := range []int{minInt, -impl.MaxDecimal - 1, -1, 0, 1, impl.MaxDecimal + 1, maxInt} {
+		if s, ok := impl.FormatInt(n); !ok && s != "" {
+			t.Errorf("FormatInt(%d) fails with %.20q", n, s)
+		}
+	}
 	for _, a := range texts {
 		if n, ok := impl.ParseInt(a); !ok && n != 0 {
 			t.Errorf("ParseInt(%.20q) fails with %d", a, n)
