@@ -122,8 +122,8 @@ func TestPromise26DelaysAreUndoneByOppositeDelays(t *testing.T) {
 	}
 }
 
-func periodCandidates() candidates {
-	c := candidates{}
+// addNetworksAndFormats adds some valid and invalid networks and lists of formats.
+func addNetworksAndFormats(c candidates) {
 	for i, n := range append(sampleNetworks()[:12], brokenNetworks()...) {
 		if i < 12 || i%6 == 0 {
 			c.add(n)
@@ -134,6 +134,11 @@ func periodCandidates() candidates {
 			c.add(list)
 		}
 	}
+}
+
+func periodCandidates() candidates {
+	c := candidates{}
+	addNetworksAndFormats(c)
 	for i, g := range badGrowths() {
 		if i%4 == 0 {
 			c.add(growths(growth(0, 1, 20, 1, 3), g))

@@ -132,16 +132,7 @@ func consoleCandidates() candidates {
 	full.Log = logOf(1, manyRecords(impl.MaxRecords)...)
 	c.add(console(twoLights()), console(plan(network("a b"))), console(gapped()), full)
 	c.add("", "lights", "serve a c 50", "add 9 a.1.d 9+1", "drop 3", "move 5 20+1", "defrag", "route a c", "show 3", "use\nheight\n", "a@b", "what", strings.Repeat("x", 161), strings.Repeat("\n", 30), strings.Repeat("x", 5000))
-	for i, n := range append(sampleNetworks()[:12], brokenNetworks()...) {
-		if i < 12 || i%6 == 0 {
-			c.add(n)
-		}
-	}
-	for i, list := range append(badFormats(), sampleFormats()...) {
-		if i%3 == 0 {
-			c.add(list)
-		}
-	}
+	addNetworksAndFormats(c)
 	for i, l := range brokenLogs() {
 		if i%20 == 0 {
 			c.add(l)
