@@ -185,7 +185,7 @@ func TestFindFrames(t *testing.T) {
 	check(t, impl.FindFrames, in(slices.Concat(whole[:9], whole)), out([]int{9}, true))
 	check(t, impl.FindFrames, in(slices.Concat([]int{246, 246, 40}, whole[2:])), out([]int{1}, true))
 	// A frame within another one is found only if the search has not gone on behind that one.
-	for at := 5; at < 16; at++ {
+	for at := 5; at < impl.FrameSize; at++ {
 		stream := nested(at)
 		check(t, impl.FindFrames, in(stream), out([]int{0}, true))
 		check(t, impl.FindFrames, in(stream[1:]), out([]int{at - 1}, true))
@@ -219,7 +219,7 @@ func TestFindFrames(t *testing.T) {
 			case 1:
 				part[next(17)] = next(256)
 			case 2:
-				part = nested(5 + next(11))
+				part = nested(5 + next(12))
 			}
 			stream = append(stream, part...)
 		}
